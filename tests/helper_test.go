@@ -121,3 +121,74 @@ func someFrame(r *rand.Rand) impl.Frame {
 	}
 	return f
 }
+
+// region is the memory that a list may reach, its spare room too.
+type region struct {
+	from, to uintptr
+}
+
+// regionsOf finds the memory of all lists in a value.
+func regionsOf(v reflect.Value) []region {
+	var found []region
+	switch v.Kind() {
+	case reflect.Struct:
+		for i := range v.NumField() {
+			found = append(found, regionsOf(v.Field(i))...)
+		}
+	case reflect.Slice:
+		size := uintptr(v.Cap()) * v.Type().Elem().Size()
+		if size > 0 {
+			found = append(found, region{v.Pointer(), v.Pointer() + size})
+		}
+		for i := range v.Len() {
+			found = append(found, regionsOf(v.Index(i))...)
+		}
+	}
+	return found
+}
+
+// wantApart asks that no list of an answer reaches into another one or into an argument.
+func wantApart(t *testing.T, what string, answer any, args ...any) {
+	t.Helper()
+	own := regionsOf(reflect.ValueOf(answer))
+	all := own
+	for _, a := range args {
+		all = append(all, regionsOf(reflect.ValueOf(a))...)
+	}
+	for i, a := range own {
+		for _, b := range all[i+1:] {
+			if a.from < b.to && b.from < a.to {
+				t.Errorf("%s: two lists share memory", what)
+				return
+			}
+		}
+	}
+}
+
+// sameValue holds two values against each other; an empty list and none are the same.
+func sameValue(a, b any) bool {
+	return sameReflected(reflect.ValueOf(a), reflect.ValueOf(b))
+}
+
+func sameReflected(a, b reflect.Value) bool {
+	switch a.Kind() {
+	case reflect.Struct:
+		for i := range a.NumField() {
+			if !sameReflected(a.Field(i), b.Field(i)) {
+				return false
+			}
+		}
+		return true
+	case reflect.Slice:
+		if a.Len() != b.Len() {
+			return false
+		}
+		for i := range a.Len() {
+			if !sameReflected(a.Index(i), b.Index(i)) {
+				return false
+			}
+		}
+		return true
+	}
+	return a.Equal(b)
+}
