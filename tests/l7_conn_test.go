@@ -18,7 +18,7 @@ type row struct {
 	sent int64
 }
 
-// wantRows runs a script; the rows were worked out by hand, and the model must say the same.
+// wantRows runs a script; the rows were worked out by hand, and the model must say the same. Behind every row Inspect is held against the model.
 func wantRows(t *testing.T, what, config string, rows []row) {
 	t.Helper()
 	script := config
@@ -31,6 +31,8 @@ func wantRows(t *testing.T, what, config string, rows []row) {
 	}
 	cfg, _ := impl.ParseConfig(config)
 	m := newConnModel(cfg)
+	ahead := config
+	wantView(t, ahead, m)
 	for i, r := range rows {
 		want := impl.Answer{Code: r.code, N: r.n, Data: r.data, Sent: r.sent}
 		if out.Answers[i] != want {
@@ -39,7 +41,19 @@ func wantRows(t *testing.T, what, config string, rows []row) {
 		if byModel := m.step(r.line); byModel != want {
 			t.Errorf("%s: line %d, %q: the model says %+v, the row %+v", what, i, r.line, byModel, want)
 		}
+		ahead += "\n" + r.line
+		wantView(t, ahead, m)
 	}
+}
+
+// wantView holds what Inspect tells of a script against the model that took the same lines.
+func wantView(t *testing.T, script string, m *connModel) impl.View {
+	t.Helper()
+	v, code := impl.Inspect(script)
+	if want := m.view(); code != impl.OK || !sameValue(v, want) {
+		t.Fatalf("code %d\n%+v, want\n%+v, of\n%s", code, v, want, script)
+	}
+	return v
 }
 
 // wantAnswers holds a made script against its model and asks for promises 12 and 13.
@@ -56,6 +70,7 @@ func wantAnswers(t *testing.T, s *scriptMaker) {
 		}
 	}
 	wantHonest(t, s.lines, out.Answers)
+	wantView(t, script, s.model)
 }
 
 // streamLog is what the two applications know of a stream.

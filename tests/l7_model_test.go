@@ -357,6 +357,18 @@ func (m *connModel) stat() impl.Answer {
 	return impl.Answer{Data: fmt.Sprint(len(m.stream), " ", m.acked, " ", m.edge, " ", m.mapped, " ", len(m.maps), " ", m.drops, " ", m.buffer.read, " ", m.buffer.next(), " ", len(m.buffer.bytes), " ", m.dropped)}
 }
 
+// view is all that Inspect must tell now; the model goes on with the lists in it.
+func (m *connModel) view() impl.View {
+	v := impl.View{Bags: m.net.flight(), Picks: m.picks}
+	v.Writer = impl.WriterView{Written: uint64(len(m.stream)), Acked: m.acked, Edge: m.edge, Mapped: m.mapped,
+		Closed: mark(m.closed), FinMapped: mark(m.finMapped), Aborted: mark(m.aborted), Drops: m.drops, Turn: m.turn, Maps: m.maps}
+	for _, s := range m.subs {
+		v.Writer.Subs = append(v.Writer.Subs, s.view())
+	}
+	v.Reader = impl.ReaderView{Buffer: m.buffer.view(), Waits: m.waits, Aborted: mark(m.stopped), Told: mark(m.told), Drops: m.dropped}
+	return v
+}
+
 func (m *connModel) step(line string) impl.Answer {
 	c, code := lineModel(line)
 	if code != impl.OK {
@@ -393,6 +405,8 @@ func (m *connModel) do(c impl.Command) impl.Answer {
 		m.readerTick()
 	case impl.CmdPick:
 		m.picks = append(m.picks, c.N)
+	case impl.CmdInject:
+		m.comes(c.Path, c.Dir, []byte(c.Data))
 	case impl.CmdFair:
 		return m.fair(c.Path)
 	case impl.CmdStat:

@@ -86,6 +86,16 @@ func wantConfigLine(t *testing.T, line string, want impl.Config, code int64) {
 	if out.Code != code || (code == impl.OK) != (len(out.Answers) == 1) {
 		t.Errorf("%q as a script: %v, want code %d", line, out, code)
 	}
+	wantInspectCode(t, line, line+"\nstat\n", code)
+}
+
+// wantInspectCode asks that Inspect has RunScript's code, and tells nothing beside an error.
+func wantInspectCode(t *testing.T, what, script string, code int64) {
+	t.Helper()
+	v, c := impl.Inspect(script)
+	if c != code || (code != impl.OK) != sameValue(v, impl.View{}) {
+		t.Errorf("%s: Inspect tells %+v, code %d, want code %d", what, v, c, code)
+	}
 }
 
 func TestConfigBounds(t *testing.T) {
@@ -267,6 +277,7 @@ func wantScript(t *testing.T, what, script string, code int64, answers int) {
 	if out.Code != code || len(out.Answers) != answers {
 		t.Errorf("%s: code %d, %d answers; want code %d, %d answers", what, out.Code, len(out.Answers), code, answers)
 	}
+	wantInspectCode(t, what, script, code)
 }
 
 func TestScriptSizes(t *testing.T) {
